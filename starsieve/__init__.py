@@ -1,0 +1,1 @@
+"""Starsieve: rows of rules with stars, the first that fits."""
