@@ -1,7 +1,7 @@
 """Books: rows of forms and deeds, of which the first that fits is met."""
 
-from starsieve.errors import NoBook, NoWord
-from starsieve.forms import fits, is_form, is_width, is_word
+from starsieve.errors import NoBook, NoMatch, NoRow, NoWord
+from starsieve.forms import fits, is_form, is_place, is_width, is_word
 
 MOST_ROWS = 12
 LONGEST_DEED = 8
@@ -38,6 +38,21 @@ def need_book(book):
         raise NoBook("a book is a tuple (width, rows)")
 
 
+def need_two_books(one, other):
+    """Refuses with NoBook what is no book, then with NoMatch books of unlike widths."""
+    need_book(one)
+    need_book(other)
+    if one[0] != other[0]:
+        raise NoMatch(f"one book has width {one[0]}, the other {other[0]}")
+
+
+def need_row(book, number):
+    """Refuses with NoBook what is no book, then with NoRow what is no number of its rows."""
+    need_book(book)
+    if not is_place(len(book[1]), number):
+        raise NoRow(f"the book has {len(book[1])} rows, numbered from 0")
+
+
 def met(book, word):
     """The number of the row that the word meets, or None."""
     need_book(book)
@@ -50,9 +65,13 @@ def met(book, word):
     return None
 
 
-def deed(book, word):
-    """The deed of the word by the book, or None."""
-    number = met(book, word)
+def deed_of(book, number):
+    """The deed of the book's row of the number, or None for None."""
     if number is None:
         return None
     return book[1][number][1]
+
+
+def deed(book, word):
+    """The deed of the word by the book, or None."""
+    return deed_of(book, met(book, word))

@@ -3,9 +3,19 @@
 WIDEST = 6
 
 
+def is_whole(thing):
+    """Whether thing, which may be anything, is a whole number."""
+    return isinstance(thing, int) and not isinstance(thing, bool)
+
+
 def is_width(thing):
     """Whether thing, which may be anything, is a width."""
-    return isinstance(thing, int) and not isinstance(thing, bool) and 1 <= thing <= WIDEST
+    return is_whole(thing) and 1 <= thing <= WIDEST
+
+
+def is_place(many, thing):
+    """Whether thing, which may be anything, is the number of one of so many things."""
+    return is_whole(thing) and 0 <= thing < many
 
 
 def is_text_of(signs, width, thing):

@@ -1,72 +1,11 @@
 """Points 2, 6 and 7: what a book is, and which row a word meets."""
 
 import copy
-import random
 import unittest
 
-from samples import WIDTHS, all_forms, all_words, things, words_of
+from samples import WIDTHS, all_forms, all_words, first_row, no_books, no_words, some_books
 from starsieve.books import deed, is_book, met, need_book
 from starsieve.errors import NoBook, NoWord
-
-DEEDS = ("a", "z", "go", "stay", "abcdefgh")
-
-
-def some_books():
-    """Books of all widths and numbers of rows, the same in each run."""
-    chance = random.Random(11)
-    books = []
-    for width in WIDTHS:
-        forms = all_forms(width)
-        for many in range(13):
-            rows = [(chance.choice(forms), chance.choice(DEEDS)) for at in range(many)]
-            books.append((width, tuple(rows)))
-    return books
-
-
-def bent_widths():
-    rows = (("0*", "a"),)
-    return [(width, rows) for width in (0, 1, 3, 7, -2, True, False, None, "2", "", (2,), [2], 10 ** 20)] + [
-        (True, (("0", "a"),)), (True, ()), (False, ()), ("1", ()), (0, ()), (7, ()), (7, (("0" * 7, "a"),)),
-        (0, (("", "a"),)), (None, ()),
-    ]
-
-
-def bent_rows():
-    row = ("0*", "a")
-    parts = [
-        list(row), ("0*",), ("0*", "a", "b"), ("0*", "a", ""), (), [], None, True, 0, "0*", "0a", ("a", "0*"), (row,),
-        [row], ((row,),),
-    ]
-    rows = [(row,) * 13, (row,) * 14, [row], [], [row, row], None, "", "0*", 0, True, row]
-    return [(2, given) for given in rows] + [(2, (row, part)) for part in parts] + [(2, (part, row)) for part in parts]
-
-
-def bent_forms():
-    forms = ["", "0", "0*1", "02", "0 ", "a*", "0\n", "0*\n", " 0*", "?1", None, 0, 1, True, ["0", "*"], ("0", "*"),
-             ["0*"], ("0*",)]
-    return [(2, (("11", "b"), (form, "a"))) for form in forms]
-
-
-def bent_deeds():
-    deeds = ["", "abcdefghi", "abcdefghij", "A", "aB", "Ab", "a b", " a", "a ", "a\n", "\na", "a\t", "a1", "1", "-", "*",
-             "a_b", "`", "{", "@", "[", None, 1, True, ["a"], ("a",), [], ()]
-    return [(2, (("11", "b"), ("0*", given))) for given in deeds]
-
-
-def bent_wholes():
-    row = ("0*", "a")
-    return [[2, (row,)], [2, ()], (2,), (2, (row,), ()), (2, (row,), None), ((row,), 2), ((2, (row,)),), [(2, (row,))],
-            (2, row), ("0*", "a"), (2, ((row,),))]
-
-
-def no_books():
-    return bent_widths() + bent_rows() + bent_forms() + bent_deeds() + bent_wholes() + things()
-
-
-def first_row(book, word):
-    """The first row that fits, told by the words of each form."""
-    numbers = [number for number, row in enumerate(book[1]) if word in words_of(row[0])]
-    return numbers[0] if numbers else None
 
 
 class BookTest(unittest.TestCase):
@@ -133,10 +72,8 @@ class MetTest(unittest.TestCase):
     def test_no_word(self):
         for width in WIDTHS:
             row = ("*" * width, "go")
-            wrong = ["0" * (width - 1), "0" * (width + 1), "*" * width, "0" * (width - 1) + "*", "2" + "0" * (width - 1),
-                     "0" * (width - 1) + "\n", "0" * width + "\n", ["0"] * width, ("0",) * width, width]
             for book in ((width, (row,)), (width, ())):
-                for word in wrong + things():
+                for word in no_words(width):
                     for told in (met, deed):
                         with self.assertRaises(NoWord, msg=repr(word)):
                             told(book, word)

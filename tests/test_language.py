@@ -16,9 +16,10 @@ WORDS = re.compile(
     r"|NamedTuple|TypedDict|TYPE_CHECKING|abstractmethod)\b|dataclass|overload|contextmanager"
 )
 NAMES = (
-    "len range enumerate zip min max sum abs sorted reversed int str bool bytes list tuple dict set frozenset isinstance"
-    " ord repr any all divmod Exception ValueError TypeError KeyError IndexError LookupError ZeroDivisionError"
-    " ArithmeticError OverflowError RuntimeError NotImplementedError AttributeError StopIteration"
+    "len range enumerate zip min max sum abs sorted reversed int str bool bytes list tuple dict set frozenset"
+    " isinstance ord repr any all divmod Exception ValueError TypeError KeyError IndexError LookupError"
+    " ZeroDivisionError ArithmeticError OverflowError RuntimeError NotImplementedError AttributeError"
+    " StopIteration"
 ).split()
 METHODS = ("__init__", "__eq__", "__repr__", "__str__", "__len__")
 
@@ -85,6 +86,41 @@ class LanguageTest(unittest.TestCase):
             asked = {node.id for node in nodes if isinstance(node, ast.Name)}
             self.assertEqual(sorted(asked - given - set(NAMES)), [], name)
             self.assertEqual(sorted(given & set(dir(__import__("builtins")))), [], name)
+
+    def test_is_stands_beside_plain_truths(self):
+        for name, tree in trees():
+            for node in ast.walk(tree):
+                if isinstance(node, ast.Compare) and isinstance(node.ops[0], (ast.Is, ast.IsNot)):
+                    sides = [node.left] + node.comparators
+                    plain = [ast.unparse(side) in ("None", "True", "False") for side in sides]
+                    self.assertIn(True, plain, (name, node.lineno))
+
+    def test_locals_are_not_called_like_what_a_file_draws_in_or_defines(self):
+        for name, tree in trees():
+            nodes = list(ast.walk(tree))
+            tops = {node.name for node in tree.body if isinstance(node, (ast.FunctionDef, ast.ClassDef))}
+            tops |= {node.name for node in nodes if isinstance(node, ast.alias)}
+            for node in nodes:
+                if isinstance(node, ast.arg):
+                    self.assertNotIn(node.arg, tops, (name, node.lineno))
+                if isinstance(node, ast.Name) and not isinstance(node.ctx, ast.Load):
+                    self.assertNotIn(node.id, tops, (name, node.lineno))
+
+    def test_no_two_files_draw_from_one_another(self):
+        drawn = {}
+        for name, tree in trees():
+            froms = [node for node in ast.walk(tree) if isinstance(node, ast.ImportFrom)]
+            drawn[name] = {node.module.split(".")[1] + ".py" for node in froms}
+            for node in froms:
+                source = dict(trees())[node.module.split(".")[1] + ".py"]
+                defined = {top.name for top in source.body if isinstance(top, (ast.FunctionDef, ast.ClassDef))}
+                defined |= {target.id for top in source.body if isinstance(top, ast.Assign) for target in top.targets}
+                self.assertLessEqual({alias.name for alias in node.names}, defined, (name, node.module))
+        while drawn:
+            free = [name for name in drawn if not drawn[name] & set(drawn)]
+            self.assertTrue(free, drawn)
+            for name in free:
+                del drawn[name]
 
 
 if __name__ == "__main__":
