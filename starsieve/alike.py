@@ -21,6 +21,12 @@ def alike(one, other):
     return ("alike", tree)
 
 
+def parting_word(one, other):
+    """The least word that has unlike deeds in the two books, or None."""
+    name, shown = alike(one, other)
+    return shown if name == "parted" else None
+
+
 def is_same(one, other, box, leaf):
     """Whether the leaf tells the rows that all words of the box meet in both books, with the same deeds."""
     if not is_named("same", 2, leaf):

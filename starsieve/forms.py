@@ -92,6 +92,23 @@ def rest(form, other):
     return parts
 
 
+def words_of(form):
+    """All words that the form fits, rising."""
+    words = [""]
+    for sign in form:
+        signs = "01" if sign == "*" else sign
+        words = [word + given for word in words for given in signs]
+    return words
+
+
+def all_forms(width):
+    """All forms of the width."""
+    forms = [""]
+    for at in range(width):
+        forms = [form + sign for form in forms for sign in "01*"]
+    return forms
+
+
 def how_many(form):
     """How many words the form fits."""
     many = 1

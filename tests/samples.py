@@ -132,6 +132,16 @@ def least_parting(one, other):
     return None
 
 
+@functools.lru_cache(maxsize=200000)
+def deeds_by_words(book):
+    """The deeds of all words, in order."""
+    return tuple(deed_by_words(book, word) for word in all_words(book[0]))
+
+
+def do_the_same(one, other):
+    return deeds_by_words(one) == deeds_by_words(other)
+
+
 def cut(book, number):
     """The book without a row."""
     return (book[0], tuple(row for at, row in enumerate(book[1]) if at != number))
@@ -169,6 +179,85 @@ def books_that_do_the_same(book):
     """Books made otherwise, of at most twelve rows, that give each word the book's deed."""
     made = split_rows(book) + hidden_put_in(book) + neighbours_exchanged(book)
     return [book] + [other for other in made if len(other[1]) <= 12]
+
+
+def arranged(book, order):
+    """The book with its rows in the order."""
+    return (book[0], tuple(book[1][number] for number in order))
+
+
+def turned_about(things, place):
+    """The tuple with the things at the place and behind it exchanged."""
+    turned = list(things)
+    turned[place], turned[place + 1] = turned[place + 1], turned[place]
+    return tuple(turned)
+
+
+def rich_books(seed):
+    """Books of all widths, beside them such of which many rows are hidden, needless or like one another."""
+    chance = random.Random(seed)
+    grown = [chance.choice(books_that_do_the_same(book)) for book in some_books()]
+    plain = [random_book(chance, width, many, "01****", ("a",)) for width in WIDTHS for many in (2, 5, 8, 12)]
+    narrow = [random_book(chance, width, many, "01") for width in WIDTHS for many in (3, 7, 12)]
+    return some_books() + small_books() + grown + plain + narrow
+
+
+def wanted_by_words(book):
+    return [word for word, given in zip(all_words(book[0]), deeds_by_words(book)) if given is not None]
+
+
+def few_wanted_books(seed, each):
+    """Books of width 4 at most with at most six wanted words, so many for each width, number and choice of deeds."""
+    chance = random.Random(seed)
+    books = []
+    for width in (1, 2, 3, 4):
+        for many in range(min(6, 2 ** width) + 1):
+            for deeds in (("a",), ("a", "b"), ("a", "b", "c")):
+                books += [few_wanted_book(chance, width, many, deeds) for at in range(each)]
+    return books
+
+
+def few_wanted_book(chance, width, many, deeds):
+    """A book with just so many wanted words, rows of several words ahead of such of one."""
+    words = chance.sample(all_words(width), many)
+    inner = [form for form in all_forms(width) if words_of(form) <= set(words)]
+    rows = [(chance.choice(inner), chance.choice(deeds)) for at in range(chance.randrange(6)) if inner]
+    return (width, tuple(rows + [(word, chance.choice(deeds)) for word in words]))
+
+
+@functools.lru_cache(maxsize=None)
+def steps_by_words(goal, some):
+    """All steps from some wanted words of a goal, as tuples (form, deed, those left)."""
+    deeds = dict(zip(all_words(goal[0]), deeds_by_words(goal)))
+    found = []
+    for form in all_forms(goal[0]):
+        taken = words_of(form) & set(some)
+        if taken and all(deeds[word] for word in words_of(form)) and len({deeds[word] for word in taken}) == 1:
+            found.append((form, deeds[min(taken)], tuple(word for word in some if word not in taken)))
+    return found
+
+
+def bent_lists(things, more):
+    """The list with one thing left out, twice, turned about with the next, or one more."""
+    bent = [[], things[::-1], things + things, things[1:] + things[:1]]
+    for at, thing in enumerate(things):
+        bent += [things[:at] + things[at + 1:], things[:at] + [thing] + things[at:]]
+        if at + 1 < len(things):
+            bent.append(list(turned_about(things, at)))
+    bent += [things + [thing] for thing in more] + [[thing] + things for thing in more] + [[thing] for thing in more]
+    return bent
+
+
+def bent_words(some, goal):
+    """Tuples of words about some: one left out, one more, turned about, twice, without a deed, of another width."""
+    wanted = wanted_by_words(goal)
+    others = [word for word in all_words(goal[0]) if word not in wanted][:2] + ["", "0", "0" * 5, "*" * goal[0], "a"]
+    bent = [some[:at] + some[at + 1:] for at in range(len(some))]
+    bent += [some[:at] + (word,) + some[at:] for at, word in enumerate(some)]
+    bent += [tuple(sorted(some + (word,))) for word in wanted + others]
+    bent += [turned_about(some, at) for at in range(len(some) - 1)]
+    bent += [some[::-1], some + some, (), tuple(wanted), tuple(all_words(goal[0]))]
+    return bent
 
 
 def no_rows(many):

@@ -4,6 +4,7 @@ import copy
 import unittest
 
 from samples import WIDTHS, all_forms, all_words, things, words_of
+from starsieve import forms
 from starsieve.forms import both, fits, how_many, is_form, is_width, is_word, joined, least, lies_in, rest
 
 
@@ -191,6 +192,12 @@ class OneFormTest(unittest.TestCase):
                 self.assertIs(type(how_many(form)), int)
                 self.assertEqual(how_many(form), len(within))
                 self.assertEqual(least(form), min(within))
+
+    def test_all_words_and_forms(self):
+        for width in WIDTHS:
+            self.assertEqual(sorted(forms.all_forms(width)), sorted(all_forms(width)))
+            for form in all_forms(width):
+                self.assertEqual(forms.words_of(form), sorted(words_of(form)))
 
 
 if __name__ == "__main__":

@@ -22,6 +22,16 @@ NAMES = (
     " StopIteration"
 ).split()
 METHODS = ("__init__", "__eq__", "__repr__", "__str__", "__len__")
+PYTHONS_METHODS = (
+    "append clear copy count endswith extend find get index insert isalnum isalpha isdigit islower isspace isupper"
+    " items join keys ljust lower lstrip partition pop remove replace reverse rfind rjust rpartition rsplit rstrip setdefault"
+    " split splitlines startswith strip update upper values zfill bit_length"
+).split()
+NOT_USED = (
+    "register mro elements open input version_info with_traceback add_note attrgetter breakpoint builtins compile"
+    " copyright credits delattr dir eval exec exit gc getattr globals hasattr help id importlib license locals"
+    " methodcaller os quit setattr super type vars sys format format_map chr"
+).split()
 
 
 def sources():
@@ -86,6 +96,64 @@ class LanguageTest(unittest.TestCase):
             asked = {node.id for node in nodes if isinstance(node, ast.Name)}
             self.assertEqual(sorted(asked - given - set(NAMES)), [], name)
             self.assertEqual(sorted(given & set(dir(__import__("builtins")))), [], name)
+
+    def test_names_that_are_not_used(self):
+        for name, tree in trees():
+            for node in ast.walk(tree):
+                for field in ("id", "attr", "arg", "name"):
+                    given = getattr(node, field, None)
+                    if isinstance(given, str):
+                        self.assertNotIn(given, NOT_USED, (name, node.lineno))
+                        self.assertTrue(given[0] != "_" or given in METHODS, (name, given))
+
+    def test_methods_and_values(self):
+        methods, values = set(), set()
+        for name, tree in trees():
+            for node in ast.walk(tree):
+                if isinstance(node, ast.ClassDef):
+                    methods |= {part.name for part in node.body if isinstance(part, ast.FunctionDef)}
+                if isinstance(node, ast.Attribute) and not isinstance(node.ctx, ast.Load):
+                    values.add(node.attr)
+        self.assertEqual(methods & values, set())
+        self.assertEqual(values & set(PYTHONS_METHODS), set())
+        for name, tree in trees():
+            nodes = list(ast.walk(tree))
+            called = [node.func for node in nodes if isinstance(node, ast.Call)]
+            for node in nodes:
+                if isinstance(node, ast.Attribute):
+                    known = methods | set(PYTHONS_METHODS) if node in called else values
+                    self.assertIn(node.attr, known, (name, node.lineno))
+
+    def test_sets_are_made_where_they_are_asked(self):
+        for name, tree in trees():
+            for node in ast.walk(tree):
+                self.assertNotIsInstance(node, (ast.Set, ast.SetComp), (name, getattr(node, "lineno", 0)))
+                inner = [part for part in ast.iter_child_nodes(node) if isinstance(part, ast.Call)]
+                for part in inner:
+                    if isinstance(part.func, ast.Name) and part.func.id in ("set", "frozenset"):
+                        self.assertIn(ast.unparse(node).split("(")[0], ("sorted", "len"), (name, part.lineno))
+
+    def test_what_a_top_holds(self):
+        for name, tree in trees():
+            seen = []
+            for node in tree.body:
+                if isinstance(node, ast.Assign):
+                    seen += [target.id for target in node.targets]
+                elif isinstance(node, ast.ImportFrom):
+                    seen += [alias.asname or alias.name for alias in node.names]
+                elif isinstance(node, (ast.FunctionDef, ast.ClassDef)):
+                    seen.append(node.name)
+                else:
+                    self.assertTrue(isinstance(node, ast.Expr) and isinstance(node.value, ast.Constant), name)
+            self.assertEqual(len(seen), len(set(seen)), name)
+
+    def test_no_format_and_no_lone_escape_in_texts(self):
+        for name, tree in trees():
+            for node in ast.walk(tree):
+                if isinstance(node, ast.FormattedValue):
+                    self.assertIsNone(node.format_spec, (name, node.lineno))
+                if isinstance(node, ast.Constant) and isinstance(node.value, str):
+                    self.assertNotIn("%", node.value, (name, node.lineno))
 
     def test_is_stands_beside_plain_truths(self):
         for name, tree in trees():
