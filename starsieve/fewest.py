@@ -33,7 +33,8 @@ def wanted(book):
 
 def parted_by(form, some):
     """The words of some that the form fits, and a tuple of those left."""
-    return ([word for word in some if fits(form, word)], tuple([word for word in some if not fits(form, word)]))
+    fitted = [word for word in some if fits(form, word)]
+    return (fitted, tuple([word for word in some if word not in fitted]))
 
 
 def steps(deeds, forms, some):

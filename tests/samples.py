@@ -237,6 +237,71 @@ def steps_by_words(goal, some):
     return found
 
 
+@functools.lru_cache(maxsize=None)
+def number_by_search(book):
+    """Rows are put on one by one, all at once, until some of them leave no wanted word."""
+    lefts, number = {tuple(wanted_by_words(book))}, 0
+    while () not in lefts:
+        lefts = {left for some in lefts for form, deed, left in steps_by_words(book, some)}
+        number += 1
+    return number
+
+
+def seven_wanted():
+    """Books with just seven wanted words, and more."""
+    return [
+        (3, (("000", "a"), ("***", "b"))), (3, (("0**", "a"), ("*00", "b"), ("*10", "c"), ("101", "d"))),
+        (3, (("0**", "a"), ("1*0", "b"), ("111", "a"))), (4, (("0***", "a"),)), (4, (("****", "a"),)),
+        (4, tuple((word, "a") for word in all_words(4)[:7])), (4, tuple((word, "a") for word in all_words(4)[:12])),
+    ]
+
+
+@functools.lru_cache(maxsize=None)
+def forms_by_words(width):
+    return {words_of(form): form for form in all_forms(width)}
+
+
+def joined_by_words(book, one, other, at):
+    """The book with two rows joined, whatever it does, or None where deeds or forms forbid it."""
+    rows = list(book[1])
+    form = forms_by_words(book[0]).get(words_of(rows[one][0]) | words_of(rows[other][0]))
+    if one >= other or form is None or rows[one][1] != rows[other][1]:
+        return None
+    rows[at] = (form, rows[at][1])
+    del rows[one + other - at]
+    return (book[0], tuple(rows))
+
+
+@functools.lru_cache(maxsize=None)
+def joins_by_words(book):
+    many = range(len(book[1]))
+    found = []
+    for one, other, at in itertools.product(many, repeat=3):
+        if one < other and at in (one, other):
+            made = joined_by_words(book, one, other, at)
+            if made is not None and do_the_same(book, made):
+                found.append((one, other, at))
+    return sorted(found)
+
+
+def lean_by_words(book):
+    for number in reversed(range(len(book[1]))):
+        if do_the_same(book, cut(book, number)):
+            book = cut(book, number)
+    return book
+
+
+def press_by_words(book):
+    while True:
+        made = book
+        while joins_by_words(made):
+            made = joined_by_words(made, *joins_by_words(made)[0])
+        made = lean_by_words(made)
+        if made == book:
+            return book
+        book = made
+
+
 def bent_lists(things, more):
     """The list with one thing left out, twice, turned about with the next, or one more."""
     bent = [[], things[::-1], things + things, things[1:] + things[:1]]

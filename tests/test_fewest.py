@@ -6,8 +6,8 @@ import random
 import unittest
 
 from samples import (
-    all_forms, all_words, bent_lists, bent_words, deeds_by_words, do_the_same, few_wanted_books, no_books, refused,
-    rich_books, small_books, steps_by_words, told, wanted_by_words,
+    all_forms, all_words, bent_lists, bent_words, deeds_by_words, do_the_same, few_wanted_books, no_books,
+    number_by_search, refused, rich_books, seven_wanted, small_books, steps_by_words, told, wanted_by_words,
 )
 from starsieve.books import is_book
 from starsieve.errors import NoBook, TooMany
@@ -16,16 +16,6 @@ from starsieve.fewest import fewest, is_floor, wanted
 BOOK = (2, (("00", "a"), ("01", "b"), ("10", "a")))
 FLOORS = [(("00", "01", "10"), 2), (("00", "01"), 1), (("00", "10"), 1), (("01", "10"), 1), (("01",), 1), (("10",), 1),
           (("00",), 1)]
-
-
-@functools.lru_cache(maxsize=None)
-def number_by_search(book):
-    """Rows are put on one by one, all at once, until some of them leave no wanted word."""
-    lefts, number = {tuple(wanted_by_words(book))}, 0
-    while () not in lefts:
-        lefts = {left for some in lefts for form, deed, left in steps_by_words(book, some)}
-        number += 1
-    return number
 
 
 @functools.lru_cache(maxsize=None)
@@ -41,6 +31,7 @@ def fewest_of_all_books(width, most):
 
 def is_floor_by_words(book, number, floors):
     words = wanted_by_words(book)
+    high = dict(sorted(floors))
     for some, n in floors:
         if list(some) != sorted(set(some)) or not set(some) <= set(words):
             return False
@@ -48,7 +39,7 @@ def is_floor_by_words(book, number, floors):
             return False
         if n > 1:
             for form, deed, left in steps_by_words(book, some):
-                if not any(other == left and high >= n - 1 for other, high in floors):
+                if high.get(left, 0) < n - 1:
                     return False
     return any(some == tuple(words) and n >= number for some, n in floors)
 
@@ -71,15 +62,6 @@ def bent_floors(chance, book, floors):
         turned += [(given, n) for given in bent_words(some, book)]
         bent += [floors[:at] + [given] + floors[at + 1:] for given in turned]
     return chance.sample(bent, min(len(bent), 60))
-
-
-def seven_wanted():
-    """Books with just seven wanted words, and more."""
-    return [
-        (3, (("000", "a"), ("***", "b"))), (3, (("0**", "a"), ("*00", "b"), ("*10", "c"), ("101", "d"))),
-        (3, (("0**", "a"), ("1*0", "b"), ("111", "a"))), (4, (("0***", "a"),)), (4, (("****", "a"),)),
-        (4, tuple((word, "a") for word in all_words(4)[:7])), (4, tuple((word, "a") for word in all_words(4)[:12])),
-    ]
 
 
 class WantedTest(unittest.TestCase):

@@ -1,65 +1,18 @@
 """Points 2, 5, 6, 7, 12, 15 and 16: rows joined, and books pressed."""
 
-import functools
 import itertools
 import random
 import unittest
 
 from samples import (
-    WIDTHS, all_forms, all_words, cut, do_the_same, first_row, least_parting, no_books, no_rows, refused, rich_books,
-    split_rows, told, words_of,
+    WIDTHS, all_words, do_the_same, first_row, joined_by_words, joins_by_words, lean_by_words, least_parting, no_books,
+    no_rows, press_by_words, refused, rich_books, split_rows, told,
 )
 from starsieve.errors import NoBook, NoJoin, NoRow, Turned
 from starsieve.joins import join, joins, press
 from starsieve.lean import needless
 
 BOOK = (2, (("00", "a"), ("01", "a"), ("1*", "b"), ("10", "b"), ("*1", "c")))
-
-
-@functools.lru_cache(maxsize=None)
-def forms_by_words(width):
-    return {words_of(form): form for form in all_forms(width)}
-
-
-def joined_by_words(book, one, other, at):
-    """The book with two rows joined, whatever it does, or None where deeds or forms forbid it."""
-    rows = list(book[1])
-    form = forms_by_words(book[0]).get(words_of(rows[one][0]) | words_of(rows[other][0]))
-    if one >= other or form is None or rows[one][1] != rows[other][1]:
-        return None
-    rows[at] = (form, rows[at][1])
-    del rows[one + other - at]
-    return (book[0], tuple(rows))
-
-
-@functools.lru_cache(maxsize=None)
-def joins_by_words(book):
-    many = range(len(book[1]))
-    found = []
-    for one, other, at in itertools.product(many, repeat=3):
-        if one < other and at in (one, other):
-            made = joined_by_words(book, one, other, at)
-            if made is not None and do_the_same(book, made):
-                found.append((one, other, at))
-    return sorted(found)
-
-
-def lean_by_words(book):
-    for number in reversed(range(len(book[1]))):
-        if do_the_same(book, cut(book, number)):
-            book = cut(book, number)
-    return book
-
-
-def press_by_words(book):
-    while True:
-        made = book
-        while joins_by_words(made):
-            made = joined_by_words(made, *joins_by_words(made)[0])
-        made = lean_by_words(made)
-        if made == book:
-            return book
-        book = made
 
 
 def books_to_join():

@@ -24,8 +24,8 @@ NAMES = (
 METHODS = ("__init__", "__eq__", "__repr__", "__str__", "__len__")
 PYTHONS_METHODS = (
     "append clear copy count endswith extend find get index insert isalnum isalpha isdigit islower isspace isupper"
-    " items join keys ljust lower lstrip partition pop remove replace reverse rfind rjust rpartition rsplit rstrip setdefault"
-    " split splitlines startswith strip update upper values zfill bit_length"
+    " items join keys ljust lower lstrip partition pop remove replace reverse rfind rjust rpartition rsplit rstrip"
+    " setdefault split splitlines startswith strip update upper values zfill bit_length"
 ).split()
 NOT_USED = (
     "register mro elements open input version_info with_traceback add_note attrgetter breakpoint builtins compile"

@@ -4,8 +4,8 @@ import random
 import unittest
 
 from samples import (
-    WIDTHS, books_that_do_the_same, cut, is_made, is_right, least_parting, no_books, no_rows, random_book, refused,
-    row_is_met, small_books, some_books, told, words_of,
+    WIDTHS, books_that_do_the_same, cut, is_made, is_right, lean_by_words, least_parting, no_books, no_rows,
+    random_book, refused, row_is_met, small_books, some_books, told, words_of,
 )
 from starsieve.errors import NoBook, NoRow
 from starsieve.lean import lean, needless, without
@@ -21,13 +21,6 @@ def rich_books():
     twice = [(width, rows[:6] + rows[:6]) for width, rows in some_books()]
     turned = [(width, rows[:6] + rows[5::-1]) for width, rows in some_books()]
     return some_books() + small_books() + grown + plain + twice + turned + [BOOK]
-
-
-def lean_by_words(book):
-    for number in range(len(book[1]) - 1, -1, -1):
-        if least_parting(book, cut(book, number)) is None:
-            book = cut(book, number)
-    return book
 
 
 def shows_needless(book, number, tree):
